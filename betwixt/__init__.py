@@ -1,0 +1,1 @@
+"""Intervals of extended numbers; the calls are in betwixt.ends."""
