@@ -1,15 +1,31 @@
-"""Extended numbers by their bits: what kind they are, and how they are told and ordered."""
+"""Extended numbers: their bits, how they are told and ordered, and reckoning with their exact values."""
 
 # The sign's bit, the significand's highest bit, and the first bit above the significand.
 SIGN = 0x80000000000000000000
 TOP = 0x8000000000000000
 BEYOND = 0x10000000000000000
 
+DIGITS = 64
 LAST_EXPONENT = 0x7FFF
+# A significand counts in units of two to the power of its exponent bits less this.
+OFFSET = 16446
 
 PLUS_INFINITE = 0x7FFF8000000000000000
 MINUS_INFINITE = 0xFFFF8000000000000000
+GREATEST = 0x7FFEFFFFFFFFFFFFFFFF
 EMPTY = 0xFFFFC000000000000000
+
+# So many digits more make a quotient or a root of two significands finer than any end.
+FINER = 130
+
+
+class Value:
+    """Exactly whole times two to the power; if infinite, beyond all bounds on the side of whole's sign."""
+
+    def __init__(self, whole, power, infinite):
+        self.whole = whole
+        self.power = power
+        self.infinite = infinite
 
 
 def exponent_of(bits):
@@ -52,3 +68,117 @@ def place(bits):
     if normal >= SIGN:
         return SIGN - 1 - normal
     return normal
+
+
+def opposite(bits):
+    """Minus a told number, told."""
+    return told(bits ^ SIGN)
+
+
+def value_of(bits):
+    """The value of a number."""
+    whole = significand_of(bits)
+    if bits >= SIGN:
+        whole = -whole
+    exponent = exponent_of(bits)
+    return Value(whole, max(exponent, 1) - OFFSET, exponent == LAST_EXPONENT)
+
+
+def size_beside(whole, power, outward):
+    """The bits of whole (above 0) times two to the power, or of the size just below it or, outward, just above."""
+    exponent = max(power + whole.bit_length() - DIGITS + OFFSET, 1)
+    dropped = exponent - OFFSET - power
+    if dropped > 0:
+        kept = whole >> dropped
+        if outward and kept << dropped != whole:
+            kept = kept + 1
+    else:
+        kept = whole << -dropped
+    if kept == BEYOND:
+        kept = TOP
+        exponent = exponent + 1
+    if exponent >= LAST_EXPONENT:
+        return PLUS_INFINITE if outward else GREATEST
+    if kept < TOP:
+        return kept
+    return exponent * BEYOND + kept
+
+
+def low_end(value):
+    """The greatest number that isn't above a value, told."""
+    if value.whole == 0:
+        return 0
+    if value.infinite:
+        return PLUS_INFINITE if value.whole > 0 else MINUS_INFINITE
+    if value.whole > 0:
+        return size_beside(value.whole, value.power, False)
+    return SIGN + size_beside(-value.whole, value.power, True)
+
+
+def high_end(value):
+    """The least number that isn't below a value, told."""
+    return opposite(low_end(Value(-value.whole, value.power, value.infinite)))
+
+
+def endless(whole):
+    """The infinite value with whole's sign."""
+    return Value(1 if whole > 0 else -1, 0, True)
+
+
+def finer(whole, power, exact):
+    """Whole times two to the power or, if not exact, a value between that and the next whole.
+
+    All such values have the same ends beside them, so one may stand for another.
+    """
+    return Value(2 * whole + (0 if exact else 1), power - 1, False)
+
+
+def plus(value, other):
+    """The sum; of infinite ones only those of one sign meet."""
+    if value.infinite:
+        return value
+    if other.infinite:
+        return other
+    power = min(value.power, other.power)
+    whole = (value.whole << (value.power - power)) + (other.whole << (other.power - power))
+    return Value(whole, power, False)
+
+
+def times(value, other):
+    """The product; 0 times an infinite one is 0, as 0 times any real number is."""
+    whole = value.whole * other.whole
+    if whole == 0:
+        return Value(0, 0, False)
+    if value.infinite or other.infinite:
+        return endless(whole)
+    return Value(whole, value.power + other.power, False)
+
+
+def over(value, other):
+    """What quotients by numbers (above 0) ever nearer to other (0 or above, perhaps infinite) come to."""
+    if value.whole == 0 or other.infinite:
+        return Value(0, 0, False)
+    if value.infinite or other.whole == 0:
+        return endless(value.whole)
+    scaled = value.whole << FINER
+    whole = scaled // other.whole
+    return finer(whole, value.power - other.power - FINER, whole * other.whole == scaled)
+
+
+def whole_root(whole):
+    """The greatest whole number whose square isn't above whole."""
+    # Begun above the root, the guesses fall until they are there.
+    guess = 1 << ((whole.bit_length() + 1) // 2)
+    while guess * guess > whole:
+        guess = (guess + whole // guess) // 2
+    return guess
+
+
+def root(value):
+    """The square root of a value that isn't below 0."""
+    if value.infinite or value.whole == 0:
+        return value
+    shift = FINER + (value.power - FINER) % 2
+    scaled = value.whole << shift
+    whole = whole_root(scaled)
+    return finer(whole, (value.power - shift) // 2, whole * whole == scaled)

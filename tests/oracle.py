@@ -109,3 +109,139 @@ SIZES = [
     bits_of(0, 0x7FFE, (1 << 63) - 1), bits_of(0, 0x7FFF, 0), bits_of(0, 0x7FFF, 1), bits_of(0, 0x7FFF, (1 << 63) - 1),
 ]
 ALL_KINDS = SIZES + [minus(size) for size in SIZES]
+
+
+# Told intervals: their ends step by step, and the bounds of what an op makes, over fractions.
+
+
+def next_above(bits):
+    """The least told number above a told one; plus infinite above the greatest."""
+    if bits == MINUS_INFINITE:
+        return minus(GREATEST)
+    if bits >> 79:
+        return minus_told(next_inward(minus(bits)))
+    if bits == GREATEST:
+        return PLUS_INFINITE
+    if bits == GREATEST_SMALL:
+        return LEAST_NORMAL
+    if bits & 0xFFFFFFFFFFFFFFFF == 0xFFFFFFFFFFFFFFFF:
+        return (bits >> 64) + 1 << 64 | 1 << 63
+    return bits + 1
+
+
+def next_inward(size):
+    """The greatest told number below a finite one above 0."""
+    if size == LEAST_NORMAL:
+        return GREATEST_SMALL
+    if size >> 64 and size & 0xFFFFFFFFFFFFFFFF == 1 << 63:
+        return (size >> 64) - 1 << 64 | 0xFFFFFFFFFFFFFFFF
+    return size - 1
+
+
+def minus_told(bits):
+    return minus(bits) if bits else 0
+
+
+def next_below(bits):
+    return minus_told(next_above(minus_told(bits)))
+
+
+def product(x, y):
+    """Of 0 and an infinite one 0; fractions beyond all floats are kept exact."""
+    if x == 0 or y == 0:
+        return Fraction(0)
+    if x in (INFINITE, -INFINITE) or y in (INFINITE, -INFINITE):
+        return INFINITE if (x > 0) == (y > 0) else -INFINITE
+    return x * y
+
+
+def total(x, y):
+    for part in (x, y):
+        if part in (INFINITE, -INFINITE):
+            return part
+    return x + y
+
+
+def corners(x, y):
+    products = [product(p, q) for p in x for q in y]
+    return min(products), max(products)
+
+
+def inverse(part):
+    """1 over what's reached: infinite of 0, 0 of infinite ones."""
+    if part == 0:
+        return INFINITE
+    return Fraction(0) if part == INFINITE else 1 / part
+
+
+def quotients(x, y):
+    """The divisors above 0 and those below it, turned over each by itself, then multiplied."""
+    found = []
+    if y[1] > 0:
+        divisors = max(y[0], Fraction(0)), y[1]
+        found.extend(corners(x, (inverse(divisors[1]), inverse(divisors[0]))))
+    if y[0] < 0:
+        divisors = max(-y[1], Fraction(0)), -y[0]
+        found.extend(corners((-x[1], -x[0]), (inverse(divisors[1]), inverse(divisors[0]))))
+    return (min(found), max(found)) if found else None
+
+
+def shared(x, y):
+    low, high = max(x[0], y[0]), min(x[1], y[1])
+    return (low, high) if low <= high else None
+
+
+TWO = [
+    lambda x, y: (total(x[0], y[0]), total(x[1], y[1])),
+    lambda x, y: (total(x[0], -y[1]), total(x[1], -y[0])),
+    corners,
+    quotients,
+    lambda x, y: (min(x[0], y[0]), min(x[1], y[1])),
+    lambda x, y: (max(x[0], y[0]), max(x[1], y[1])),
+    lambda x, y: (min(x[0], y[0]), max(x[1], y[1])),
+    shared,
+]
+
+
+def bounds(low, high):
+    """An interval's bounds, or None of the empty one."""
+    return None if low == EMPTY else (value(low), value(high))
+
+
+def bounds_of_two(op, x, y):
+    """The greatest lower and the least upper bound of what op makes of two pairs of bounds (None: empty)."""
+    if x is None or y is None:
+        return (x or y) if op == 6 else None
+    return TWO[op](x, y)
+
+
+def bounds_of_one(op, x):
+    """The same of square, abs and neg."""
+    if x is None:
+        return None
+    if op == 3:
+        return -x[1], -x[0]
+    sizes = [abs(x[0]), abs(x[1])] + ([Fraction(0)] if x[0] <= 0 <= x[1] else [])
+    if op == 1:
+        sizes = [product(size, size) for size in sizes]
+    return min(sizes), max(sizes)
+
+
+def is_told(bits):
+    return bits == 0 or kind(bits) in ("small", "normal", "infinite")
+
+
+def fault_of_hull(answer, wanted):
+    """What keeps an answer from being the hull of a set with these bounds (None: of no number); None if nothing."""
+    if [type(part) for part in answer] != [int] * 3 or answer[0] != 0:
+        return "no interval"
+    if wanted is None:
+        return None if answer[1:] == [EMPTY, EMPTY] else "not empty"
+    low, high = answer[1:]
+    if not (is_told(low) and is_told(high)) or low == PLUS_INFINITE or high == MINUS_INFINITE:
+        return "not told"
+    if value(low) > wanted[0] or value(high) < wanted[1]:
+        return "something is outside"
+    if value(next_above(low)) <= wanted[0] or value(next_below(high)) >= wanted[1]:
+        return "not the least"
+    return None

@@ -206,7 +206,8 @@ def top_names(tree):
 
 
 def drawn_names(tree):
-    return [drawn.asname or drawn.name for node in tree.body if isinstance(node, ast.ImportFrom) for drawn in node.names]
+    imports = [node for node in tree.body if isinstance(node, ast.ImportFrom)]
+    return [drawn.asname or drawn.name for node in imports for drawn in node.names]
 
 
 if __name__ == "__main__":
