@@ -1,9 +1,11 @@
 """The calls: intervals handed in and answered by the bits of their ends."""
 
-from betwixt.extended import EMPTY, MINUS_INFINITE, PLUS_INFINITE, high_end, is_number, low_end, opposite
-from betwixt.extended import over, place, plus, root, times, told, value_of
+from betwixt.extended import EMPTY, MINUS_INFINITE, PLUS_INFINITE, Value, high_end, is_number, low_end, opposite
+from betwixt.extended import over, place, plus, raised, root, times, told, value_of
 
 JOIN = 6
+LEAST_POWER = -64
+GREATEST_POWER = 64
 
 
 def are_ends(low, high):
@@ -144,6 +146,56 @@ def neg(low, high):
     return [opposite(high), opposite(low)]
 
 
+def power_above_zero(low, high, n):
+    """All powers of numbers that aren't below 0; if n is below 0, not of 0, and high isn't 0."""
+    if n >= 0:
+        return [low_end(raised(value_of(low), n)), high_end(raised(value_of(high), n))]
+    # Only the last step is rounded: one over the exact power of each end.
+    lowest = over(Value(1, 0, False), raised(value_of(high), -n))
+    highest = over(Value(1, 0, False), raised(value_of(low), -n))
+    return [low_end(lowest), high_end(highest)]
+
+
+def odd_power(low, high, n):
+    """All powers with an odd n, which keep the sign."""
+    if place(low) >= 0:
+        return power_above_zero(low, high, n)
+    below = power_above_zero(opposite(lesser(high, 0)), opposite(low), n)
+    minus_below = neg(below[0], below[1])
+    if place(high) <= 0:
+        return minus_below
+    above = power_above_zero(0, high, n)
+    return join(minus_below[0], minus_below[1], above[0], above[1])
+
+
+def power_of(low, high, n):
+    """All powers; if n is below 0, of numbers other than 0."""
+    if n < 0 and low == 0 and high == 0:
+        return [EMPTY, EMPTY]
+    if n % 2 == 1:
+        return odd_power(low, high, n)
+    sizes = absolute(low, high)
+    return power_above_zero(sizes[0], sizes[1], n)
+
+
+def div_apart(low, high, other_low, other_high):
+    """The quotients below 0, then those above 0, of numbers all on one side of 0 by numbers on both."""
+    by_below = div(low, high, other_low, 0)
+    by_above = div(low, high, 0, other_high)
+    if place(low) > 0:
+        return by_below + by_above
+    return by_above + by_below
+
+
+def quotient_sets(low, high, other_low, other_high):
+    """How many sets the quotients by numbers other than 0 are told as, then these."""
+    without_zero = place(low) > 0 or place(high) < 0
+    if without_zero and place(other_low) < 0 and place(other_high) > 0:
+        return [2] + div_apart(low, high, other_low, other_high)
+    quotients = div(low, high, other_low, other_high)
+    return [0] if quotients[0] == EMPTY else [1] + quotients
+
+
 TWO = (add, sub, mul, div, least, greatest, join, meet)
 ONE = (sqrt, square, absolute, neg)
 
@@ -184,3 +236,23 @@ def one(op, low, high):
     if low == EMPTY:
         return [0, EMPTY, EMPTY]
     return [0] + ONE[op](told(low), told(high))
+
+
+def power(low, high, n):
+    """The hull of the n-th powers of an interval."""
+    if n < LEAST_POWER or n > GREATEST_POWER:
+        return [-1]
+    if not is_interval(low, high):
+        return [-2]
+    if low == EMPTY:
+        return [0, EMPTY, EMPTY]
+    return [0] + power_of(told(low), told(high), n)
+
+
+def div2(low, high, other_low, other_high):
+    """The quotients as so many hulls as they have: none, one, or one on either side of 0."""
+    if not (is_interval(low, high) and is_interval(other_low, other_high)):
+        return [-2]
+    if low == EMPTY or other_low == EMPTY:
+        return [0, 0]
+    return [0] + quotient_sets(told(low), told(high), told(other_low), told(other_high))

@@ -15,7 +15,7 @@ MINUS_INFINITE = 0xFFFF8000000000000000
 GREATEST = 0x7FFEFFFFFFFFFFFFFFFF
 EMPTY = 0xFFFFC000000000000000
 
-# So many digits more make a quotient or a root of two significands finer than any end.
+# So many digits more make a significand's root finer than any end.
 FINER = 130
 
 
@@ -160,9 +160,19 @@ def over(value, other):
         return Value(0, 0, False)
     if value.infinite or other.whole == 0:
         return endless(value.whole)
-    scaled = value.whole << FINER
+    # However long the divisor is, the quotient has more digits than any end.
+    shift = DIGITS + other.whole.bit_length()
+    scaled = value.whole << shift
     whole = scaled // other.whole
-    return finer(whole, value.power - other.power - FINER, whole * other.whole == scaled)
+    return finer(whole, value.power - other.power - shift, whole * other.whole == scaled)
+
+
+def raised(value, n):
+    """A value to the power of n, not below 0; to the power of 0 it's 1, of 0 and of infinite ones too."""
+    product = Value(1, 0, False)
+    for step in range(n):
+        product = times(product, value)
+    return product
 
 
 def whole_root(whole):

@@ -1,5 +1,6 @@
 """What the document says of extended numbers, written a second time over fractions, for the tests."""
 
+import functools
 import math
 from fractions import Fraction
 
@@ -44,6 +45,7 @@ def is_finite(bits):
     return kind(bits) in ("zero", "small", "nearly small", "normal")
 
 
+@functools.lru_cache(maxsize=None)
 def value(bits):
     """A number's value: a Fraction, or an infinite float."""
     sign = -1 if bits >> 79 else 1
@@ -225,6 +227,34 @@ def bounds_of_one(op, x):
     if op == 1:
         sizes = [product(size, size) for size in sizes]
     return min(sizes), max(sizes)
+
+
+def power_of_size(size, n):
+    """A size, perhaps infinite, to the power of n, not 0; of what's near to 0, what powers below 0 come to."""
+    if n < 0:
+        return inverse(power_of_size(size, -n))
+    return INFINITE if size == INFINITE else size ** n
+
+
+def bounds_of_power(n, x):
+    """The numbers that aren't below 0 and those that aren't above it, raised each by themselves."""
+    if x is None:
+        return None
+    if n == 0:
+        return Fraction(1), Fraction(1)
+    found = []
+    for low, high, sign in ((x[0], x[1], 1), (-x[1], -x[0], -1 if n % 2 else 1)):
+        if high > 0 or high == 0 and n > 0:
+            found.extend(sign * power_of_size(size, n) for size in (max(low, Fraction(0)), high))
+    return (min(found), max(found)) if found else None
+
+
+def bounds_of_div2(x, y):
+    """The bounds of each set that the quotients are told as."""
+    if x is not None and y is not None and y[0] < 0 < y[1] and not x[0] <= 0 <= x[1]:
+        return sorted([quotients(x, (y[0], Fraction(0))), quotients(x, (Fraction(0), y[1]))])
+    found = bounds_of_two(3, x, y)
+    return [] if found is None else [found]
 
 
 def is_told(bits):

@@ -6,46 +6,17 @@ from fractions import Fraction
 
 from betwixt.ends import one, two
 from oracle import (
-    ALL_KINDS, EMPTY, GREATEST, GREATEST_SMALL, INFINITE, LAST_BITS, LEAST_NORMAL, LEAST_SMALL, MINUS_INFINITE,
-    MINUS_ZERO, PLUS_INFINITE, at, bits_of, bounds, bounds_of_one, bounds_of_two, fault_of_hull, is_finite, is_interval,
-    is_told, kind, minus, next_above, next_below, value,
+    GREATEST, GREATEST_SMALL, INFINITE, LEAST_NORMAL, LEAST_SMALL, MINUS_INFINITE, MINUS_ZERO, PLUS_INFINITE, at,
+    bounds, bounds_of_one, bounds_of_two, fault_of_hull, is_finite, is_interval, is_told, minus, next_above, next_below,
+    value,
+)
+from samples import (
+    ABOVE, BELOW, LINE, NEARLY_SMALL, NONE, SAME_BUT_NORMAL, SHAPES, THIRD_DOWN, THIRD_UP, WRONG, ZERO, intervals_of,
+    is_within, numbers_of, pair, part_of, told_as,
 )
 
 ADD, SUB, MUL, DIV, MIN, MAX, JOIN, MEET = range(8)
 SQRT, SQUARE, ABS, NEG = range(4)
-
-NONE = (EMPTY, EMPTY)
-LINE = (MINUS_INFINITE, PLUS_INFINITE)
-ABOVE = (0, PLUS_INFINITE)
-BELOW = (MINUS_INFINITE, 0)
-ZERO = (0, 0)
-NEARLY_SMALL = 0xC000000000000000
-SAME_BUT_NORMAL = bits_of(0, 1, 0xC000000000000000)
-THIRD_DOWN = 0x3FFDAAAAAAAAAAAAAAAA
-THIRD_UP = 0x3FFDAAAAAAAAAAAAAAAB
-
-
-def pair(low, high):
-    return at(low), at(high)
-
-
-# Of every shape an interval can have: on either side of 0, with it, bounded and not, at the edges of the format.
-SHAPES = [
-    NONE, ZERO, (MINUS_ZERO, 0), (MINUS_ZERO, MINUS_ZERO), LINE, ABOVE, BELOW,
-    (MINUS_ZERO, PLUS_INFINITE), (MINUS_INFINITE, MINUS_ZERO),
-    pair(1, 1), pair(-1, -1), pair(3, 3), pair(-3, -3), pair(1, 2), pair(-2, -1), pair(-1, 3), pair(-3, 7),
-    pair(0, 2), pair(-2, 0), (MINUS_ZERO, at(3)), (at(-3), MINUS_ZERO), pair(Fraction(1, 2), 5),
-    (at(1), PLUS_INFINITE), (at(-1), PLUS_INFINITE), (MINUS_INFINITE, at(1)), (MINUS_INFINITE, at(-1)),
-    (THIRD_DOWN, THIRD_UP), (minus(THIRD_UP), minus(THIRD_DOWN)), (minus(THIRD_UP), at(10)),
-    (GREATEST, GREATEST), (minus(GREATEST), minus(GREATEST)), (minus(GREATEST), GREATEST), (GREATEST, PLUS_INFINITE),
-    (MINUS_INFINITE, minus(GREATEST)), (at(1), GREATEST), (LEAST_SMALL, LEAST_SMALL), (0, LEAST_SMALL),
-    (minus(LEAST_SMALL), MINUS_ZERO), (minus(LEAST_SMALL), LEAST_SMALL), (minus(LEAST_SMALL), minus(LEAST_SMALL)),
-    (LEAST_SMALL, GREATEST), (minus(GREATEST), minus(LEAST_SMALL)), (LEAST_SMALL, GREATEST_SMALL),
-    (GREATEST_SMALL, LEAST_NORMAL), (NEARLY_SMALL, NEARLY_SMALL), (SAME_BUT_NORMAL, NEARLY_SMALL),
-    (minus(NEARLY_SMALL), LEAST_SMALL), (minus(NEARLY_SMALL), minus(NEARLY_SMALL)), (NEARLY_SMALL, at(1)),
-    (LEAST_NORMAL, PLUS_INFINITE), (at(1), next_above(at(1))), (next_below(at(1)), at(1)),
-    (next_below(at(-1)), at(Fraction(-1, 4))), (LEAST_SMALL, PLUS_INFINITE),
-]
 
 
 class HullTest(unittest.TestCase):
@@ -63,10 +34,6 @@ class HullTest(unittest.TestCase):
         else:
             fault = fault_of_hull(answer, bounds_of_one(op, bounds(*x)))
         self.assertIsNone(fault, (op, told_as(x), told_as(answer)))
-
-
-def told_as(numbers):
-    return [f"{number:020X}" for number in numbers]
 
 
 def square_of(bits):
@@ -88,29 +55,6 @@ def fault_of_root(answer, operand):
     if high and square_of(next_below(high)) >= operand[1]:
         return "not the least"
     return None
-
-
-def numbers_of(source, count):
-    """Finite numbers and both infinite ones, many of them near an edge or of few digits."""
-    found = [bits for bits in ALL_KINDS if is_finite(bits) or kind(bits) == "infinite"]
-    while len(found) < count:
-        exponent = source.choice([0, 1, 2, 0x3FFE, 0x3FFF, 0x4000, 0x7FFD, 0x7FFE, source.randrange(1, 0x7FFF)])
-        last = (1 << 63) - 1 - source.getrandbits(2)
-        significand = source.choice([source.getrandbits(63), source.getrandbits(3) << 60, last])
-        if exponent or source.getrandbits(1):
-            significand |= 1 << 63
-        found.append(bits_of(source.getrandbits(1), exponent, significand))
-    return found
-
-
-def intervals_of(source, count):
-    numbers = numbers_of(source, 300)
-    found = []
-    while len(found) < count:
-        ends = source.choice(numbers), source.choice(numbers)
-        if is_interval(*ends):
-            found.append(ends)
-    return found
 
 
 class ExampleTest(unittest.TestCase):
@@ -317,20 +261,17 @@ class RootTest(unittest.TestCase):
 
 
 class RefusalTest(unittest.TestCase):
-    WRONG = [pair(2, 1), (0, MINUS_ZERO), (EMPTY, at(1)), (at(1), EMPTY), (PLUS_INFINITE, PLUS_INFINITE),
-             (LAST_BITS, LAST_BITS), (bits_of(0, 5, 1), at(1))]
-
     def test_no_such_op(self):
         for op in (8, 9, 255, 4294967295):
             self.assertEqual(two(op, *pair(1, 2), *pair(1, 2)), [-1])
-            for wrong in self.WRONG:
+            for wrong in WRONG:
                 self.assertEqual(two(op, *wrong, *wrong), [-1])
         for op in (4, 8, 4294967295):
             self.assertEqual(one(op, *pair(1, 2)), [-1])
             self.assertEqual(one(op, *pair(2, 1)), [-1])
 
     def test_no_interval(self):
-        for wrong in self.WRONG:
+        for wrong in WRONG:
             for op in range(8):
                 self.assertEqual(two(op, *wrong, *pair(1, 2)), [-2])
                 self.assertEqual(two(op, *pair(1, 2), *wrong), [-2])
@@ -400,31 +341,20 @@ class ManyTest(HullTest):
 class PartsTest(unittest.TestCase):
     """What's told of parts is within what's told of the whole, and so is what single numbers make."""
 
-    def within(self, part, whole):
-        if part[1] == EMPTY:
-            return True
-        return value(whole[1]) <= value(part[1]) and value(part[2]) <= value(whole[2])
-
-    def part_of(self, source, x, numbers):
-        inside = [bits for bits in numbers if is_finite(bits) and value(x[0]) <= value(bits) <= value(x[1])]
-        inside.extend(bits for bits in x if is_finite(bits))
-        ends = [source.choice(inside), source.choice(inside)]
-        return min(ends, key=value), max(ends, key=value)
-
     def test_parts(self):
         source = random.Random(15)
         numbers = numbers_of(source, 200)
         operands = intervals_of(source, 240)
         for x, y in zip(operands[::2], operands[1::2]):
-            x_part, y_part = self.part_of(source, x, numbers), self.part_of(source, y, numbers)
+            x_part, y_part = part_of(source, x, numbers), part_of(source, y, numbers)
             if not (is_interval(*x_part) and is_interval(*y_part)):
                 continue
             for op in range(8):
                 whole = two(op, *x, *y)
                 part = two(op, *x_part, *y_part)
-                self.assertTrue(self.within(part, whole), (op, told_as(x + y), told_as(x_part + y_part)))
+                self.assertTrue(is_within(part[1:], whole[1:]), (op, told_as(x + y), told_as(x_part + y_part)))
             for op in range(4):
-                self.assertTrue(self.within(one(op, *x_part), one(op, *x)), (op, told_as(x), told_as(x_part)))
+                self.assertTrue(is_within(one(op, *x_part)[1:], one(op, *x)[1:]), (op, told_as(x), told_as(x_part)))
 
     def made_of_two(self, op, x, y):
         """What an op makes of a number of X and one of Y."""
@@ -441,8 +371,8 @@ class PartsTest(unittest.TestCase):
         numbers = numbers_of(source, 200)
         operands = intervals_of(source, 240)
         for x, y in zip(operands[::2], operands[1::2]):
-            points = [(value(p), value(q)) for p in self.part_of(source, x, numbers)
-                      for q in self.part_of(source, y, numbers)]
+            points = [(value(p), value(q)) for p in part_of(source, x, numbers)
+                      for q in part_of(source, y, numbers)]
             for op in range(8):
                 told = two(op, *x, *y)
                 for p, q in points:
