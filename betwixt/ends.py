@@ -2,6 +2,7 @@
 
 from betwixt.extended import EMPTY, MINUS_INFINITE, PLUS_INFINITE, Value, high_end, is_number, low_end, opposite
 from betwixt.extended import over, place, plus, raised, root, times, told, value_of
+from betwixt.relations import RELATIONS, are_related
 
 JOIN = 6
 LEAST_POWER = -64
@@ -256,3 +257,23 @@ def div2(low, high, other_low, other_high):
     if low == EMPTY or other_low == EMPTY:
         return [0, 0]
     return [0] + quotient_sets(told(low), told(high), told(other_low), told(other_high))
+
+
+def relate(op, low, high, other_low, other_high):
+    """1 if a relation holds of two intervals: all less, some less, all and some at most, same, within, apart, inner."""
+    if op >= len(RELATIONS):
+        return [-1]
+    if not (is_interval(low, high) and is_interval(other_low, other_high)):
+        return [-2]
+    holds = are_related(op, told(low), told(high), told(other_low), told(other_high))
+    return [0, 1 if holds else 0]
+
+
+def has(low, high, number):
+    """1 if a number's value is in an interval."""
+    if not (is_interval(low, high) and is_number(number)):
+        return [-2]
+    if low == EMPTY or number == PLUS_INFINITE or number == MINUS_INFINITE:
+        return [0, 0]
+    spot = place(told(number))
+    return [0, 1 if place(told(low)) <= spot and spot <= place(told(high)) else 0]

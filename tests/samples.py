@@ -87,3 +87,13 @@ def is_within(part, whole):
     if part[0] == EMPTY:
         return True
     return whole[0] != EMPTY and value(whole[0]) <= value(part[0]) and value(part[1]) <= value(whole[1])
+
+
+def fault_of_answer(call, given):
+    """What keeps a call's answer from being a fresh list of whole numbers, the same each time; None if nothing."""
+    answer = call(*given)
+    if type(answer) is not list or [type(part) for part in answer] != [int] * len(answer):
+        return "no list of whole numbers"
+    kept = list(answer)
+    answer.clear()
+    return None if call(*given) == kept else "another answer"

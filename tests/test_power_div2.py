@@ -10,8 +10,8 @@ from oracle import (
     bounds, bounds_of_div2, bounds_of_power, fault_of_hull, is_interval, minus, next_above, next_below, value,
 )
 from samples import (
-    ABOVE, BELOW, LINE, NEARLY_SMALL, NONE, SAME_BUT_NORMAL, SHAPES, THIRD_DOWN, THIRD_UP, WRONG, ZERO, intervals_of,
-    is_within, numbers_of, pair, part_of, told_as,
+    ABOVE, BELOW, LINE, NEARLY_SMALL, NONE, SAME_BUT_NORMAL, SHAPES, THIRD_DOWN, THIRD_UP, WRONG, ZERO,
+    fault_of_answer, intervals_of, is_within, numbers_of, pair, part_of, told_as,
 )
 
 DIV = 3
@@ -404,12 +404,7 @@ class AnswerTest(unittest.TestCase):
         calls = [(power, (*x, n)) for x in SHAPES + WRONG for n in (0, 2, 3, -2, -3, 65)]
         calls += [(div2, (*x, *y)) for x in SHAPES + WRONG for y in (pair(-1, 3), pair(0, 2), ZERO, NONE)]
         for call, given in calls:
-            answer = call(*given)
-            self.assertIs(type(answer), list)
-            self.assertEqual([type(part) for part in answer], [int] * len(answer))
-            kept = list(answer)
-            answer.clear()
-            self.assertEqual(call(*given), kept)
+            self.assertIsNone(fault_of_answer(call, given), given)
 
 
 if __name__ == "__main__":

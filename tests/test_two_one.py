@@ -11,8 +11,8 @@ from oracle import (
     value,
 )
 from samples import (
-    ABOVE, BELOW, LINE, NEARLY_SMALL, NONE, SAME_BUT_NORMAL, SHAPES, THIRD_DOWN, THIRD_UP, WRONG, ZERO, intervals_of,
-    is_within, numbers_of, pair, part_of, told_as,
+    ABOVE, BELOW, LINE, NEARLY_SMALL, NONE, SAME_BUT_NORMAL, SHAPES, THIRD_DOWN, THIRD_UP, WRONG, ZERO,
+    fault_of_answer, intervals_of, is_within, numbers_of, pair, part_of, told_as,
 )
 
 ADD, SUB, MUL, DIV, MIN, MAX, JOIN, MEET = range(8)
@@ -294,18 +294,11 @@ class ShapesTest(HullTest):
             for x in SHAPES:
                 self.check_one(op, x)
 
-    def test_a_second_call_answers_as_the_first(self):
-        for x in SHAPES:
-            for op in range(8):
-                first = two(op, *x, *pair(-1, 3))
-                kept = list(first)
-                first.clear()
-                self.assertEqual(two(op, *x, *pair(-1, 3)), kept)
-            for op in range(4):
-                first = one(op, *x)
-                kept = list(first)
-                first.clear()
-                self.assertEqual(one(op, *x), kept)
+    def test_answers_are_lists_of_int_and_stay_the_same(self):
+        for x in SHAPES + WRONG:
+            for op in range(9):
+                self.assertIsNone(fault_of_answer(two, (op, *x, *pair(-1, 3))), (op, told_as(x)))
+                self.assertIsNone(fault_of_answer(one, (op, *x)), (op, told_as(x)))
 
 
 class ManyTest(HullTest):
