@@ -1,7 +1,7 @@
 """The calls: intervals handed in and answered by the bits of their ends."""
 
-from betwixt.extended import EMPTY, MINUS_INFINITE, PLUS_INFINITE, Value, high_end, is_number, low_end, opposite
-from betwixt.extended import over, place, plus, raised, root, times, told, value_of
+from betwixt.extended import EMPTY, GREATEST, MINUS_INFINITE, PLUS_INFINITE, Value, high_end, is_number, low_end
+from betwixt.extended import nearest, opposite, over, place, plus, raised, root, times, told, value_of
 from betwixt.relations import RELATIONS, are_related
 
 JOIN = 6
@@ -197,6 +197,18 @@ def quotient_sets(low, high, other_low, other_high):
     return [0] if quotients[0] == EMPTY else [1] + quotients
 
 
+def middle_of(low, high):
+    """The number nearest to half of both ends together; of an unbounded one its stand-in."""
+    if low == MINUS_INFINITE and high == PLUS_INFINITE:
+        return 0
+    if low == MINUS_INFINITE:
+        return opposite(GREATEST)
+    if high == PLUS_INFINITE:
+        return GREATEST
+    total = plus(value_of(low), value_of(high))
+    return nearest(Value(total.whole, total.power - 1, False))
+
+
 TWO = (add, sub, mul, div, least, greatest, join, meet)
 ONE = (sqrt, square, absolute, neg)
 
@@ -277,3 +289,21 @@ def has(low, high, number):
         return [0, 0]
     spot = place(told(number))
     return [0, 1 if place(told(low)) <= spot and spot <= place(told(high)) else 0]
+
+
+def width(low, high):
+    """How far the upper end is from the lower one, rounded up."""
+    if not is_interval(low, high):
+        return [-2]
+    if low == EMPTY:
+        return [-5]
+    return [0, high_end(plus(value_of(high), value_of(opposite(told(low)))))]
+
+
+def middle(low, high):
+    """The number midway between the ends, rounded to the nearest."""
+    if not is_interval(low, high):
+        return [-2]
+    if low == EMPTY:
+        return [-5]
+    return [0, middle_of(told(low), told(high))]

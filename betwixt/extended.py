@@ -18,6 +18,11 @@ EMPTY = 0xFFFFC000000000000000
 # So many digits more make a significand's root finer than any end.
 FINER = 130
 
+# How a size becomes a number's: the one nearer to 0, the one farther from it, the nearest.
+INWARD = 0
+OUTWARD = 1
+NEAREST = 2
+
 
 class Value:
     """Exactly whole times two to the power; if infinite, beyond all bounds on the side of whole's sign."""
@@ -84,21 +89,30 @@ def value_of(bits):
     return Value(whole, max(exponent, 1) - OFFSET, exponent == LAST_EXPONENT)
 
 
-def size_beside(whole, power, outward):
-    """The bits of whole (above 0) times two to the power, or of the size just below it or, outward, just above."""
+def shortened(whole, dropped, rounding):
+    """Whole (above 0) rounded to leave out its last digits of two; with 0s behind it if dropped is below 0."""
+    if dropped <= 0:
+        return whole << -dropped
+    kept = whole >> dropped
+    rest = whole - (kept << dropped)
+    half = 1 << (dropped - 1)
+    if rounding == OUTWARD and rest > 0:
+        return kept + 1
+    # Of two as near the even one.
+    if rounding == NEAREST and (rest > half or (rest == half and kept % 2 == 1)):
+        return kept + 1
+    return kept
+
+
+def size_rounded(whole, power, rounding):
+    """The bits of whole (above 0) times two to the power, rounded."""
     exponent = max(power + whole.bit_length() - DIGITS + OFFSET, 1)
-    dropped = exponent - OFFSET - power
-    if dropped > 0:
-        kept = whole >> dropped
-        if outward and kept << dropped != whole:
-            kept = kept + 1
-    else:
-        kept = whole << -dropped
+    kept = shortened(whole, exponent - OFFSET - power, rounding)
     if kept == BEYOND:
         kept = TOP
         exponent = exponent + 1
     if exponent >= LAST_EXPONENT:
-        return PLUS_INFINITE if outward else GREATEST
+        return GREATEST if rounding == INWARD else PLUS_INFINITE
     if kept < TOP:
         return kept
     return exponent * BEYOND + kept
@@ -111,13 +125,21 @@ def low_end(value):
     if value.infinite:
         return PLUS_INFINITE if value.whole > 0 else MINUS_INFINITE
     if value.whole > 0:
-        return size_beside(value.whole, value.power, False)
-    return SIGN + size_beside(-value.whole, value.power, True)
+        return size_rounded(value.whole, value.power, INWARD)
+    return SIGN + size_rounded(-value.whole, value.power, OUTWARD)
 
 
 def high_end(value):
     """The least number that isn't below a value, told."""
     return opposite(low_end(Value(-value.whole, value.power, value.infinite)))
+
+
+def nearest(value):
+    """The number nearest to a finite value, told; of two as near the even one."""
+    if value.whole == 0:
+        return 0
+    size = size_rounded(abs(value.whole), value.power, NEAREST)
+    return size if value.whole > 0 else opposite(size)
 
 
 def endless(whole):

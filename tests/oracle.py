@@ -275,3 +275,39 @@ def fault_of_hull(answer, wanted):
     if value(next_above(low)) <= wanted[0] or value(next_below(high)) >= wanted[1]:
         return "not the least"
     return None
+
+
+def fault_of_number(answer):
+    if [type(part) for part in answer] != [int] * 2 or answer[0] != 0:
+        return "no number"
+    return None if is_told(answer[1]) else "not told"
+
+
+def fault_of_width(answer, x):
+    """What keeps an answer from being the least number that isn't below hi less lo; None if nothing."""
+    if fault_of_number(answer):
+        return fault_of_number(answer)
+    wanted = total(x[1], -x[0])
+    if value(answer[1]) < wanted:
+        return "too narrow"
+    return "not the least" if answer[1] and value(next_below(answer[1])) >= wanted else None
+
+
+def fault_of_middle(answer, x):
+    """What keeps an answer from being as near as can be to half of lo and hi together; None if nothing."""
+    if fault_of_number(answer):
+        return fault_of_number(answer)
+    found = answer[1]
+    if INFINITE in x or -INFINITE in x:
+        stand_ins = {(True, True): 0, (False, True): GREATEST, (True, False): minus(GREATEST)}
+        return None if found == stand_ins[x[0] == -INFINITE, x[1] == INFINITE] else "another stand-in"
+    if not is_finite(found):
+        return "not finite"
+    wanted = (x[0] + x[1]) / 2
+    away = abs(value(found) - wanted)
+    for other in filter(is_finite, (next_below(found), next_above(found))):
+        if abs(value(other) - wanted) < away:
+            return "another is nearer"
+        if abs(value(other) - wanted) == away and found % 2:
+            return "of two as near the odd one"
+    return None
