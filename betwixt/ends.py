@@ -2,7 +2,9 @@
 
 from betwixt.extended import EMPTY, GREATEST, MINUS_INFINITE, PLUS_INFINITE, Value, high_end, is_number, low_end
 from betwixt.extended import nearest, opposite, over, place, plus, raised, root, times, told, value_of
+from betwixt.reading import MOST_BYTES, Fault, can_be_ends, ends_said, value_beside
 from betwixt.relations import RELATIONS, are_related
+from betwixt.writing import interval_text
 
 JOIN = 6
 LEAST_POWER = -64
@@ -307,3 +309,26 @@ def middle(low, high):
     if low == EMPTY:
         return [-5]
     return [0, middle_of(told(low), told(high))]
+
+
+def text(low, high):
+    """How many bytes an interval's text has, then they."""
+    if not is_interval(low, high):
+        return [-2]
+    codes = [ord(sign) for sign in interval_text(low, high)]
+    return [0, len(codes)] + codes
+
+
+def read(text):
+    """The least interval that holds what a text says, told."""
+    if len(text) > MOST_BYTES:
+        return [-1]
+    try:
+        ends = ends_said(text)
+    except Fault as fault:
+        return [-2, fault.spot]
+    if len(ends) == 0:
+        return [0, EMPTY, EMPTY]
+    if not can_be_ends(ends[0], ends[1]):
+        return [-5]
+    return [0, low_end(value_beside(ends[0])), high_end(value_beside(ends[1]))]

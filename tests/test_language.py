@@ -179,6 +179,22 @@ class NamesTest(unittest.TestCase):
             if isinstance(node, ast.Call) and isinstance(node.func, ast.Attribute):
                 self.assertIn(node.func.attr, METHODS | own, (name, node.lineno))
 
+    def test_no_name_is_a_method_and_a_value(self):
+        classes = [node for name, node in every_node() if isinstance(node, ast.ClassDef)]
+        methods = {node.name for each in classes for node in each.body if isinstance(node, ast.FunctionDef)}
+        for name, node in every_node():
+            if isinstance(node, ast.Attribute) and isinstance(node.ctx, ast.Store):
+                self.assertNotIn(node.attr, methods, (name, node.lineno))
+                self.assertNotIn(node.attr, METHODS, (name, node.lineno))
+
+    def test_errors_are_the_packages_own(self):
+        own = {node.name for name, node in every_node() if isinstance(node, ast.ClassDef)}
+        for name, node in every_node():
+            if isinstance(node, ast.Raise):
+                self.assertIn(node.exc.func.id, own, (name, node.lineno))
+            if isinstance(node, ast.ExceptHandler):
+                self.assertIn(node.type.id, own, (name, node.lineno))
+
     def test_each_name_is_bound_once_at_the_top(self):
         for name, tree in trees().items():
             bound = top_names(tree) + drawn_names(tree)
