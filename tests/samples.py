@@ -64,6 +64,10 @@ def numbers_of(source, count):
     return found
 
 
+def intervals_of_all_kinds():
+    return [(low, high) for low in ALL_KINDS for high in ALL_KINDS if is_interval(low, high)]
+
+
 def intervals_of(source, count):
     numbers = numbers_of(source, 300)
     found = []

@@ -11,7 +11,7 @@ from oracle import (
 )
 from samples import (
     LINE, NEARLY_SMALL, NONE, SAME_BUT_NORMAL, SHAPES, THIRD_DOWN, THIRD_UP, WRONG, ZERO, fault_of_answer,
-    intervals_of, numbers_of, pair, told_as,
+    intervals_of, intervals_of_all_kinds, numbers_of, pair, told_as,
 )
 from wording import FORM, codes_of, fault_of_form, fault_of_reading, number_wording, wording
 
@@ -596,10 +596,8 @@ class ReadAsItselfTest(unittest.TestCase):
             self.check(x)
 
     def test_every_interval_of_all_kinds(self):
-        for low in ALL_KINDS:
-            for high in ALL_KINDS:
-                if is_interval(low, high):
-                    self.check((low, high))
+        for x in intervals_of_all_kinds():
+            self.check(x)
 
     def test_many_intervals(self):
         for x in intervals_of(random.Random(55), 1500):

@@ -12,7 +12,7 @@ from oracle import (
 )
 from samples import (
     ABOVE, BELOW, LINE, NEARLY_SMALL, NONE, SAME_BUT_NORMAL, SHAPES, WRONG, ZERO, fault_of_answer, intervals_of,
-    numbers_of, pair, told_as,
+    intervals_of_all_kinds, numbers_of, pair, told_as,
 )
 
 ALL_ZEROS = [ZERO, (MINUS_ZERO, 0), (MINUS_ZERO, MINUS_ZERO)]
@@ -256,10 +256,8 @@ class ManyTest(unittest.TestCase):
                 self.check(x)
 
     def test_every_interval_of_all_kinds(self):
-        for low in ALL_KINDS:
-            for high in ALL_KINDS:
-                if is_interval(low, high):
-                    self.check((low, high))
+        for x in intervals_of_all_kinds():
+            self.check(x)
 
     def test_many_intervals(self):
         for x in intervals_of(random.Random(41), 1500):
