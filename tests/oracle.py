@@ -277,6 +277,27 @@ def fault_of_hull(answer, wanted):
     return None
 
 
+def square_of(bits):
+    return INFINITE if bits == PLUS_INFINITE else value(bits) ** 2
+
+
+def fault_of_root(answer, operand):
+    """Like fault_of_hull, but by squares, since a root may be no fraction."""
+    if operand is None or operand[1] < 0:
+        return fault_of_hull(answer, None)
+    low, high = answer[1:]
+    if not (is_told(low) and is_told(high)) or low >> 79 or high >> 79 or low == PLUS_INFINITE:
+        return "not told"
+    least = max(operand[0], 0)
+    if square_of(low) > least or square_of(high) < operand[1]:
+        return "something is outside"
+    if square_of(next_above(low)) <= least:
+        return "not the least"
+    if high and square_of(next_below(high)) >= operand[1]:
+        return "not the least"
+    return None
+
+
 def fault_of_number(answer):
     if [type(part) for part in answer] != [int] * 2 or answer[0] != 0:
         return "no number"

@@ -11,7 +11,8 @@ from fractions import Fraction
 from betwixt import ends
 from oracle import (
     ALL_KINDS, EMPTY, INFINITE, MINUS_INFINITE, PLUS_INFINITE, at, bounds, bounds_of_div2, bounds_of_one,
-    bounds_of_power, bounds_of_two, fault_of_hull, fault_of_middle, fault_of_width, is_finite, is_interval, value,
+    bounds_of_power, bounds_of_two, fault_of_hull, fault_of_middle, fault_of_root, fault_of_width, is_finite,
+    is_interval, value,
 )
 from samples import (
     ABOVE, LINE, NONE, SHAPES, WRONG, ZERO, fault_of_answer, intervals_of, is_within, numbers_of, pair,
@@ -173,6 +174,7 @@ class LeastTest(unittest.TestCase):
 
     def test_one_and_power(self):
         for x, _ in operands(65, 200):
+            self.assertIsNone(fault_of_root(ends.one(SQRT, *x), bounds(*x)), told_as(x))
             for op in (SQUARE, ABS, NEG):
                 self.check(ends.one(op, *x), bounds_of_one(op, bounds(*x)), (op, told_as(x)))
             for n in POWERS:

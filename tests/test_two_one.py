@@ -6,8 +6,8 @@ from fractions import Fraction
 
 from betwixt.ends import one, two
 from oracle import (
-    GREATEST, GREATEST_SMALL, INFINITE, LEAST_NORMAL, LEAST_SMALL, MINUS_INFINITE, MINUS_ZERO, PLUS_INFINITE, at,
-    bounds, bounds_of_one, bounds_of_two, fault_of_hull, is_finite, is_interval, is_told, minus, next_above, next_below,
+    GREATEST, GREATEST_SMALL, LEAST_NORMAL, LEAST_SMALL, MINUS_INFINITE, MINUS_ZERO, PLUS_INFINITE, at, bounds,
+    bounds_of_one, bounds_of_two, fault_of_hull, fault_of_root, is_finite, is_interval, minus, next_above, next_below,
     value,
 )
 from samples import (
@@ -34,27 +34,6 @@ class HullTest(unittest.TestCase):
         else:
             fault = fault_of_hull(answer, bounds_of_one(op, bounds(*x)))
         self.assertIsNone(fault, (op, told_as(x), told_as(answer)))
-
-
-def square_of(bits):
-    return INFINITE if bits == PLUS_INFINITE else value(bits) ** 2
-
-
-def fault_of_root(answer, operand):
-    """Like fault_of_hull, but by squares, since a root may be no fraction."""
-    if operand is None or operand[1] < 0:
-        return fault_of_hull(answer, None)
-    low, high = answer[1:]
-    if not (is_told(low) and is_told(high)) or low >> 79 or high >> 79 or low == PLUS_INFINITE:
-        return "not told"
-    least = max(operand[0], 0)
-    if square_of(low) > least or square_of(high) < operand[1]:
-        return "something is outside"
-    if square_of(next_above(low)) <= least:
-        return "not the least"
-    if high and square_of(next_below(high)) >= operand[1]:
-        return "not the least"
-    return None
 
 
 class ExampleTest(unittest.TestCase):
